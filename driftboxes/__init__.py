@@ -1,0 +1,1 @@
+"""Where something that drifts may be: driftboxes.drift.answers tells it."""
