@@ -15,24 +15,32 @@ def most_taken(low, high, lo, hi):
 
 
 class Sea:
-    """The hour, the boxes, the land, currents and winds, and from where to where it takes the wind.
+    """The hour, the boxes, the land, currents and winds, how often it was sighted, from where to where it takes wind.
 
-    Its lists and boxes are never changed, only others put in their place: so a call that is refused leaves
-    all as it was.
+    A change is made to a copy, never to the sea itself or to one of its lists: so a call that is refused leaves all
+    as it was, and what was known before a change can be put back.
     """
 
-    def __init__(self):
-        # Nothing is asked ahead of a start that isn't refused: which box stands here until then is all one.
-        self.begin(Box(0, 0, 0, 0), 0, 0)
-
-    def begin(self, box, lo, hi):
+    def __init__(self, boxes, lo, hi):
         self.hour = 0
-        self.boxes = [box]
+        self.boxes = boxes
         self.lands = []
         self.current = Box(0, 0, 0, 0)
         self.wind = Box(0, 0, 0, 0)
+        self.sightings = 0
         self.lo = lo
         self.hi = hi
+        self.ahead = []
+
+    def copied(self):
+        """One like it, to be changed; what lies ahead of it is reckoned anew."""
+        same = Sea(self.boxes, self.lo, self.hi)
+        same.hour = self.hour
+        same.lands = self.lands
+        same.current = self.current
+        same.wind = self.wind
+        same.sightings = self.sightings
+        return same
 
     def hour_drift(self):
         """The drift of an hour, as told now, as a box."""
@@ -44,11 +52,13 @@ class Sea:
                    current.north + most_taken(wind.south, wind.north, self.lo, self.hi))
 
     def boxes_after(self, n):
-        """The boxes n hours from now, if nothing is told; none if it would be nowhere."""
+        """The boxes n hours from now, if nothing is told; none if it would be nowhere then or on the way."""
+        # Kept from one asking to the next, for many calls may look at the same hours ahead.
+        if not self.ahead:
+            self.ahead.append(self.boxes)
         drift = self.hour_drift()
-        boxes = self.boxes
-        for hour in range(n):
-            gone = [moved(box, drift) for box in boxes]
+        while len(self.ahead) <= n:
+            gone = [moved(box, drift) for box in self.ahead[-1]]
             # Brought to four every hour, not at the end alone: else hours in pieces would not be the same.
-            boxes = at_most_four(without(gone, self.lands))
-        return boxes
+            self.ahead.append(at_most_four(without(gone, self.lands)))
+        return self.ahead[n]

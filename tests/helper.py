@@ -55,6 +55,54 @@ def area():
     return [11]
 
 
+def drift():
+    return [12]
+
+
+def ahead(n):
+    return [13, n]
+
+
+def reaches(west, east, south, north):
+    return [14, west, east, south, north]
+
+
+def best():
+    return [15]
+
+
+def centre():
+    return [16]
+
+
+def widest():
+    return [17]
+
+
+def lands():
+    return [18]
+
+
+def shore(i):
+    return [19, i]
+
+
+def told_now():
+    return [20]
+
+
+def back():
+    return [21]
+
+
+def again():
+    return [22]
+
+
+def state():
+    return [23]
+
+
 def row(west, east):
     """A box one place high: on one line it is easy to see what is left of boxes."""
     return (west, east, 0, 0)
@@ -95,14 +143,21 @@ def boxes(*calls):
     return [tuple(answer[1:]) for answer in found if answer[0] == 0]
 
 
+# All that is known, and what follows from it.
+LOOK = [box(i) for i in range(5)] + [shore(i) for i in range(5)] + [lands(), told_now()]
+ASKED = LOOK + [box_round(), area(), drift(), ahead(1), ahead(5), best(), centre(), widest()]
+
+
+def known(*calls):
+    """All that can be asked behind these calls, but for what can be taken back and done again."""
+    found = told(*calls, *ASKED, state())[len(calls):]
+    return found[:-1] + [found[-1][:4]]
+
+
 def all_of(*calls):
-    """All that can be asked behind these calls, and what they change (each kind once, so that all of it shows)."""
-    asked = [box(i) for i in range(5)] + [box_round(), area()]
-    changes = [current(0, 0, 0, 0), wind(0, 0, 0, 0), hours(1), land(-999999, -999999, -999999, -999999),
-               hours(1)] + [box(i) for i in range(5)]
-    drifted = [hours(1)] + [box(i) for i in range(5)]
-    return (told(*calls, *asked)[len(calls):], told(*calls, *drifted)[len(calls):],
-            told(*calls, *changes)[len(calls):])
+    """All that can be asked behind these calls, and all at each step back, and at each done again."""
+    steps = [told(*calls, *[step, *LOOK, state()] * 21)[len(calls):] for step in (back(), again())]
+    return known(*calls), last(*calls, state()), steps
 
 
 def not_boxes_within(limit):

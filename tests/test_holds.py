@@ -1,10 +1,12 @@
 """What holds, asked place by place of many lists, and a plain model told word by word beside the program."""
 
+import copy
 import random
 import unittest
 
-from tests.helper import (area, box, box_round, boxes, current, flat, hours, land, last, may, other, searched,
-                          sighted, split, start, told, wind)
+from tests.helper import (again, ahead, area, back, best, box, box_round, boxes, centre, current, drift, flat, hours,
+                          known, land, lands, last, may, other, reaches, searched, shore, sighted, split, start, state,
+                          told, told_now, widest, wind)
 from driftboxes.drift import answers
 
 
@@ -13,13 +15,19 @@ def places(found):
             for x in range(west, east + 1) for y in range(south, north + 1)}
 
 
+def apart(one, another):
+    return one[1] < another[0] or another[1] < one[0] or one[3] < another[2] or another[3] < one[2]
+
+
 class Model:
     """The document's words, box by box and without any short cut."""
 
     def begin(self, west, east, south, north, lo, hi):
         if not self.box_within((west, east, south, north), 1000000) or lo > hi or hi > 20:
             return [-22]
-        self.hour = 0
+        self.backs = []
+        self.agains = []
+        self.hour = self.sightings = 0
         self.now = [(west, east, south, north)]
         self.lands = []
         self.currents = self.winds = (0, 0, 0, 0)
@@ -32,7 +40,7 @@ class Model:
     def less(self, one, taken):
         w, e, s, n = one
         tw, te, ts, tn = taken
-        if te < w or tw > e or tn < s or ts > n:
+        if apart(one, taken):
             return [one]
         left = [(w, tw - 1, s, n), (te + 1, e, s, n),
                 (max(w, tw), min(e, te), s, ts - 1), (max(w, tw), min(e, te), tn + 1, n)]
@@ -110,15 +118,19 @@ class Model:
                       self.currents[low + 1] + max((one + 99) // 100 for one in blown)]
         return edges
 
+    def later(self, n):
+        found = self.now
+        for step in range(n):
+            gone = [tuple(a + b for a, b in zip(one, self.drift())) for one in found]
+            found = self.four(self.off_land(gone, self.lands))
+        return found
+
     def hours(self, n):
         if not 1 <= n <= 24:
             return [-22]
         if self.hour + n > 1000:
             return [-75]
-        found = self.now
-        for step in range(n):
-            gone = [tuple(a + b for a, b in zip(one, self.drift())) for one in found]
-            found = self.four(self.off_land(gone, self.lands))
+        found = self.later(n)
         if not found:
             return [-33]
         self.hour += n
@@ -131,7 +143,10 @@ class Model:
         w, e, s, n = edges
         found = [(max(w, one[0]), min(e, one[1]), max(s, one[2]), min(n, one[3])) for one in self.now]
         found = [one for one in found if self.box_within(one, 3000000)]
-        return self.become(self.tidy(found)) if found else [-33]
+        if not found:
+            return [-33]
+        self.sightings += 1
+        return self.become(self.tidy(found))
 
     def searched(self, *edges):
         if not self.box_within(edges, 3000000):
@@ -158,10 +173,82 @@ class Model:
     def area(self):
         return [len(self.now), sum(self.much(one) for one in self.now)]
 
+    def told_drift(self):
+        return [0, *self.drift()]
+
+    def ahead(self, n):
+        if not 1 <= n <= 24:
+            return [-22]
+        found = self.later(n)
+        return [len(found), *self.hull(*found)] if found else [-33]
+
+    def reaches(self, *edges):
+        if not self.box_within(edges, 3000000):
+            return [-22]
+        beside = copy.copy(self)
+        for n in range(49):
+            if any(not apart(one, edges) for one in beside.now):
+                return [n]
+            beside.now = beside.later(1)
+        return [-33]
+
+    def best(self):
+        much, i = min((self.much(one), i) for i, one in enumerate(self.now))
+        return [i, much]
+
+    def centre(self):
+        w, e, s, n = self.hull(*self.now)
+        # One of the two beside the half, whichever isn't above it.
+        return [0, (w + e - (w + e) % 2) // 2, (s + n - (s + n) % 2) // 2]
+
+    def widest(self):
+        w, e, s, n = self.hull(*self.now)
+        return [0, e - w, n - s]
+
+    def told_lands(self):
+        return [len(self.lands), *self.shares]
+
+    def shore(self, i):
+        return [0, *self.lands[i]] if i < len(self.lands) else [-2]
+
+    def told(self):
+        return [0, *self.currents, *self.winds]
+
+    def put(self, kept):
+        self.hour, self.sightings, self.now, self.lands, self.currents, self.winds = kept
+
+    def all(self):
+        return copy.deepcopy((self.hour, self.sightings, self.now, self.lands, self.currents, self.winds))
+
+    def back(self):
+        if not self.backs:
+            return [-2]
+        self.agains.append(self.all())
+        self.put(self.backs.pop())
+        return [len(self.backs)]
+
+    def again(self):
+        if not self.agains:
+            return [-2]
+        self.backs.append(self.all())
+        self.put(self.agains.pop())
+        return [len(self.agains)]
+
+    def state(self):
+        return [self.hour, len(self.now), len(self.lands), self.sightings, len(self.backs), len(self.agains)]
+
     def answer(self, call):
         ways = [self.begin, self.land, self.current, self.wind, self.hours, self.sighted, self.searched, self.other,
-                self.box, self.may, self.round, self.area]
-        return ways[call[0]](*call[1:])
+                self.box, self.may, self.round, self.area, self.told_drift, self.ahead, self.reaches, self.best,
+                self.centre, self.widest, self.told_lands, self.shore, self.told, self.back, self.again, self.state]
+        if not 1 <= call[0] <= 7:
+            return ways[call[0]](*call[1:])
+        before = self.all()
+        answer = ways[call[0]](*call[1:])
+        if answer[0] >= 0:
+            self.backs = [*self.backs, before][-20:]
+            self.agains = []
+        return answer
 
 
 class Dice:
@@ -186,23 +273,39 @@ class Dice:
         lo = self.some(0, 20)
         return start(*self.edges(self.size), lo, self.some(lo, 20))
 
-    def call(self):
+    def change(self):
         size = self.size
-        way = self.some(0, 60)
-        if way == 0:
-            return self.begin()
         ways = [lambda: land(*self.edges(size // 2)), lambda: current(*self.edges(3, 2)),
                 lambda: wind(*self.edges(60, 50)), lambda: hours(self.some(0, 25) if self.some(0, 9) == 0 else 1),
                 lambda: sighted(*self.edges(size * 3)), lambda: searched(*self.edges(size)),
-                lambda: other(*self.edges(size // 2)), lambda: box(self.some(0, 4)),
-                lambda: may(self.some(-size, size), self.some(-size, size)), box_round, area]
-        return ways[way % len(ways)]()
+                lambda: other(*self.edges(size // 2))]
+        return self.dice.choice(ways)()
+
+    def ask(self):
+        size = self.size
+        ways = [lambda: box(self.some(0, 4)), lambda: may(self.some(-size, size), self.some(-size, size)), box_round,
+                area, drift, lambda: ahead(self.some(0, 25)), lambda: reaches(*self.edges(size // 4, size * 2)), best,
+                centre, widest, lands, lambda: shore(self.some(0, 4)), told_now, state]
+        return self.dice.choice(ways)()
+
+    def call(self):
+        if self.some(0, 80) == 0:
+            return self.begin()
+        return self.dice.choice([self.change, self.change, self.change, self.ask, self.ask, self.ask, back, again])()
 
     def line(self, long):
         first = self.begin()
         while last(first) != [0]:
             first = self.begin()
         return [first] + [self.call() for step in range(long)]
+
+    def swing(self, long):
+        """Changes, and many at once taken back and done again."""
+        line = self.line(0)
+        while len(line) < long:
+            way = self.dice.choice([self.change, self.change, back, again])
+            line += [way() for step in range(self.some(1, 25))]
+        return line
 
 
 class BesideTheModel(unittest.TestCase):
@@ -217,6 +320,13 @@ class BesideTheModel(unittest.TestCase):
     def test_long_lists(self):
         for seed in range(3):
             line = Dice(-1 - seed, 25).line(999)
+            model = Model()
+            with self.subTest(seed):
+                self.assertEqual(split(answers(flat(line))), [model.answer(call) for call in line])
+
+    def test_many_taken_back_and_done_again(self):
+        for seed in range(30):
+            line = [one for call in Dice(seed, 15).swing(200) for one in (call, state())]
             model = Model()
             with self.subTest(seed):
                 self.assertEqual(split(answers(flat(line))), [model.answer(call) for call in line])
@@ -287,8 +397,10 @@ class WhatHolds(unittest.TestCase):
             east = self.shifts(flowing[:2], blown[:2], lo, hi)
             north = self.shifts(flowing[2:], blown[2:], lo, hi)
             with self.subTest(seed):
-                self.assertEqual(boxes(start(0, 0, 0, 0, lo, hi), current(*flowing), wind(*blown), hours(1)),
-                                 [(min(east), max(east), min(north), max(north))])
+                edges = (min(east), max(east), min(north), max(north))
+                line = [start(0, 0, 0, 0, lo, hi), current(*flowing), wind(*blown)]
+                self.assertEqual(boxes(*line, hours(1)), [edges])
+                self.assertEqual(last(*line, drift()), [0, *edges])
 
     def test_surely_there_off_land(self):
         for seed in range(100):
@@ -309,6 +421,64 @@ class WhatHolds(unittest.TestCase):
                 self.assertEqual(told(*line, hours(1))[-1] == [-33], not came)
                 if came:
                     self.assertLessEqual(came, places(boxes(*line, hours(1))))
+
+    def test_no_sooner(self):
+        for dice, line in self.lines(80):
+            goal = dice.edges(3, 14)
+            when = last(*line, reaches(*goal))[0]
+            if when == -22:
+                continue
+            # Hour by hour; if it would be nowhere, the hours don't go by and the boxes stay where they were.
+            came = [n for n in range(49) if not all(apart(one, goal) for one in boxes(*line, *[hours(1)] * n))]
+            with self.subTest(line=line, goal=goal):
+                self.assertEqual(when, came[0] if came else -33)
+
+    def test_in_whatever_pieces(self):
+        for dice, line in self.lines(80):
+            n = dice.some(2, 24)
+            if last(*line, hours(n))[0] < 0:
+                continue
+            first = dice.some(1, n - 1)
+            at_once = known(*line, hours(n))
+            with self.subTest(line=line, n=n, first=first):
+                self.assertEqual(known(*line, hours(first), hours(n - first)), at_once)
+                self.assertEqual(known(*line, *[hours(1)] * n), at_once)
+                self.assertEqual(last(*line, ahead(n))[1:], last(*line, hours(n), box_round())[1:])
+
+    def standing(self, line):
+        """The changes that were not taken back, or done again, by what the calls answered."""
+        stand, gone = [], []
+        for call, answer in zip(line, told(*line)):
+            if answer[0] < 0:
+                continue
+            if call[0] == 0:
+                stand, gone = [call], []
+            elif call[0] <= 7:
+                stand, gone = stand + [call], []
+            elif call == back():
+                stand, gone = stand[:-1], gone + stand[-1:]
+            elif call == again():
+                stand, gone = stand + gone[-1:], gone[:-1]
+        return stand
+
+    def test_all_can_be_taken_back_and_done_again(self):
+        for seed in range(60):
+            line = Dice(seed, 9).swing(120)
+            with self.subTest(seed):
+                self.assertEqual(known(*line), known(*self.standing(line)))
+
+    def test_back_and_again_as_far_as_can_be(self):
+        for seed in range(60):
+            line = Dice(500 + seed, 9).swing(60)
+            backs, agains = last(*line, state())[4:]
+            there = line + [again()] * agains + [back()] * agains
+            here = line + [back()] * backs + [again()] * backs
+            with self.subTest(seed):
+                self.assertEqual(told(*here, state())[-1], told(*line, state())[-1])
+                self.assertEqual(known(*here), known(*line))
+                self.assertEqual(known(*there), known(*line))
+                self.assertEqual(told(*line, *[back()] * (backs + 1))[-1], [-2])
+                self.assertEqual(told(*line, *[again()] * (agains + 1))[-1], [-2])
 
 
 if __name__ == "__main__":

@@ -2,8 +2,8 @@
 
 import unittest
 
-from tests.helper import (COVERED, GREATEST, ON_LAND, all_of, boxes, boxes_within, current, hours, land, last, may,
-                          not_boxes_within, other, row, sighted, start, told, wind)
+from tests.helper import (COVERED, GREATEST, ON_LAND, all_of, boxes, boxes_within, current, hours, known, land, last,
+                          may, not_boxes_within, other, row, sighted, start, told, wind)
 
 
 class CurrentAndWind(unittest.TestCase):
@@ -167,11 +167,11 @@ class HoursGoBy(unittest.TestCase):
         begun = [start(-3, 20, 0, 20, 2, 9), land(4, 6, 4, 6), land(12, 13, 8, 9), land(-9, -8, 0, 3),
                  land(15, 40, -3, 1), current(-2, 1, 0, 1), wind(-40, 10, -70, 20)]
         for n in (2, 3, 5, 24):
-            at_once = all_of(*begun, hours(n))
+            at_once = known(*begun, hours(n))
             with self.subTest(n):
-                self.assertEqual(all_of(*begun, *[hours(1)] * n), at_once)
-                self.assertEqual(all_of(*begun, hours(n - 1), hours(1)), at_once)
-                self.assertEqual(all_of(*begun, hours(1), hours(n - 1)), at_once)
+                self.assertEqual(known(*begun, *[hours(1)] * n), at_once)
+                self.assertEqual(known(*begun, hours(n - 1), hours(1)), at_once)
+                self.assertEqual(known(*begun, hours(1), hours(n - 1)), at_once)
 
 
 if __name__ == "__main__":

@@ -2,10 +2,12 @@
 
 import unittest
 
-from tests.helper import (GREATEST, all_of, area, box, boxes, boxes_within, current, hours, land, last, may,
-                          not_boxes_within, other, start, told, wind)
+from tests.helper import (GREATEST, again, all_of, area, back, box, boxes, boxes_within, current, hours, land, lands,
+                          last, may, not_boxes_within, other, sighted, start, state, told, told_now, wind)
 
-BUSY = [start(0, 10, 0, 10, 3, 7), land(3, 5, 4, 6), current(-1, 2, -3, 4), wind(-33, 10, 10, 33), hours(2)]
+# With changes that were taken back, too.
+BUSY = [start(0, 10, 0, 10, 3, 7), land(3, 5, 4, 6), current(-1, 2, -3, 4), wind(-33, 10, 10, 33), hours(2),
+        sighted(0, 10, 0, 10), current(7, 7, 7, 7), land(50, 60, 50, 60), back(), back()]
 
 
 def bad_starts():
@@ -45,10 +47,17 @@ class StartAllowed(unittest.TestCase):
                 self.assertEqual(told(start(5, 5, 5, 5, lo, hi)), [[0]])
 
     def test_all_is_as_at_first(self):
-        for again in [start(-4, 4, -2, 2, 0, 20), start(7, 7, 7, 7, 5, 5)]:
-            with self.subTest(again):
-                self.assertEqual(last(*BUSY, again), [0])
-                self.assertEqual(all_of(*BUSY, again), all_of(again))
+        for anew in [start(-4, 4, -2, 2, 0, 20), start(7, 7, 7, 7, 5, 5)]:
+            with self.subTest(anew):
+                self.assertEqual(last(*BUSY, anew), [0])
+                self.assertEqual(all_of(*BUSY, anew), all_of(anew))
+
+    def test_no_changes(self):
+        self.assertEqual(last(*BUSY, state())[1:], [4, 1, 1, 5, 2])
+        anew = start(7, 7, 7, 7, 5, 5)
+        self.assertEqual(told(*BUSY, anew, state(), back(), again(), state())[-4:],
+                         [[0, 1, 0, 0, 0, 0], [-2], [-2], [0, 1, 0, 0, 0, 0]])
+        self.assertEqual(told(anew, lands(), told_now())[1:], [[0, 5, 5], [0] * 9])
 
     def test_at_first(self):
         begun = start(3, 5, 4, 6, 1, 2)
